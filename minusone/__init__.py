@@ -1,0 +1,1 @@
+"""Who hears whom in joined conferences."""

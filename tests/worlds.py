@@ -1,0 +1,208 @@
+"""Worlds for the tests, and a slow, plain reading of the document to compare with."""
+
+import random
+
+HALF = (1, 2)
+
+ONE = (("p", "q"), (("j", "p", "q", HALF, HALF),), (("a", "p", True, True), ("b", "q", True, True)), ())
+TWO = (("p", "q"), (("j", "p", "q", HALF, HALF), ("k", "p", "q", HALF, HALF)), ONE[2], ())
+ROOM = (("p",), (), (("a", "p", True, True), ("b", "p", True, False), ("c", "p", True, True)),
+        (("r", ("a", "b"), HALF),))
+EMPTY = ((), (), (), ())
+
+# One seat of each kind: e hears, m does neither, s speaks, t does both.
+KINDS = (("p",), (), (("e", "p", False, True), ("m", "p", False, False), ("s", "p", True, False),
+                      ("t", "p", True, True)), (("r", ("e", "m", "s", "t"), (3, 2)),))
+
+# A room over two bridges: what comes to a at p goes out by b at q, never back.
+HALL = (("p", "q"), (), (("a", "p", True, True), ("b", "q", True, False), ("c", "q", False, True),
+                         ("d", "p", True, False)), (("r", ("a", "b"), HALF),))
+
+# Two seats of one room at two bridges, and a join between these bridges.
+LOOP = (("p", "q"), (("j", "p", "q", HALF, None),),
+        (("a", "p", True, True), ("b", "q", True, True), ("d", "p", True, True)), (("r", ("a", "b"), HALF),))
+
+# As large as the bounds allow: 5 bridges, 6 joins, 6 seats, 2 rooms of 3, 16 legs.
+FULL = (("p", "q", "r", "s", "t"),
+        (("ja", "p", "q", (9, 9), (1, 9)), ("jb", "p", "r", (9, 1), (1, 1)), ("jc", "q", "s", HALF, HALF),
+         ("jd", "r", "s", HALF, HALF), ("je", "s", "t", HALF, HALF), ("jf", "t", "p", HALF, HALF)),
+        (("a", "p", True, True), ("b", "q", True, False), ("c", "r", True, False),
+         ("d", "s", True, True), ("e", "s", True, False), ("f", "t", True, False)),
+        (("m", ("a", "b", "c"), (9, 9)), ("n", ("d", "e", "f"), (1, 9))))
+
+
+def ladder(rungs):
+    """Bridges in a row, each with two ways to the next one and none back: 2 ** rungs ways."""
+    bridges = tuple("bcdefghijklmnopqrstuvwxyz"[:rungs + 1])
+    joins = []
+    for low, high in zip(bridges, bridges[1:]):
+        joins.append(("j" + low + "x", low, high, HALF, None))
+        joins.append(("j" + low + "y", high, low, None, HALF))
+    seats = (("a", bridges[0], True, False), ("z", bridges[-1], False, True))
+    return (bridges, tuple(joins), seats, ())
+
+
+def listed(value):
+    """The value with a list for each tuple in it."""
+    if isinstance(value, (list, tuple)):
+        return [listed(part) for part in value]
+    return value
+
+
+def mixed(value, depth=0):
+    """The value with lists on every other level."""
+    if isinstance(value, (list, tuple)):
+        parts = [mixed(part, depth + 1) for part in value]
+        return parts if depth % 2 else tuple(parts)
+    return value
+
+
+NAMES = ("a", "aa", "ab", "b", "back", "c", "d", "longname", "m", "there", "u", "x", "y", "z", "zz")
+
+
+def random_gain(dice):
+    return (dice.randint(1, 9), dice.randint(1, 9))
+
+
+def random_rooms(dice, seats):
+    names = [seat[0] for seat in seats]
+    dice.shuffle(names)
+    rooms = []
+    for name in ("a", "r")[:dice.randint(0, 2)]:
+        members, names = names[:dice.randint(2, 3)], names[3:]
+        if len(members) >= 2:
+            rooms.append((name, tuple(sorted(members)), random_gain(dice)))
+    return tuple(rooms)
+
+
+def random_join(dice, name, bridges, downhill):
+    """A join; downhill, open only from the lower bridge to the higher one."""
+    one, other = dice.sample(bridges, 2)
+    open_ways = [one < other, other < one] if downhill else [dice.random() < 0.6, dice.random() < 0.6]
+    gains = [random_gain(dice) if is_open else None for is_open in open_ways]
+    return (name, one, other, gains[0], gains[1])
+
+
+def random_world(seed):
+    """A world within the bounds, the same for the same seed."""
+    dice = random.Random(seed)
+    while True:
+        downhill = dice.random() < 0.4
+        bridges = tuple(sorted(dice.sample(NAMES, dice.randint(1, 5))))
+        names = dice.sample(NAMES, 12)
+        many = 0 if len(bridges) < 2 else 6 if downhill else dice.randint(0, 6)
+        joins = tuple(random_join(dice, name, bridges, downhill) for name in sorted(names[:6])[:many])
+        seats = tuple((name, dice.choice(bridges), dice.random() < 0.7, dice.random() < 0.7)
+                      for name in sorted(names[6:])[:dice.randint(0, 6)])
+        world = (bridges, joins, seats, random_rooms(dice, seats))
+        if len(plain_legs(world)) <= 16:
+            return world
+
+
+def plain_seat(world, name):
+    for seat in world[2]:
+        if seat[0] == name:
+            return seat
+    raise AssertionError(name)
+
+
+def plain_legs(world):
+    """For each leg the bridge and the line that it leaves, then those that it comes to."""
+    found = {}
+    for name, one, other, there, back in world[1]:
+        if there:
+            found[name, "there"] = (one, name, other, name)
+        if back:
+            found[name, "back"] = (other, name, one, name)
+    for _, members, _ in world[3]:
+        seats = [plain_seat(world, name) for name in members]
+        for ear in seats:
+            for mouth in seats:
+                if ear is not mouth and ear[3] and mouth[2]:
+                    found[ear[0], mouth[0]] = (ear[1], ear[0], mouth[1], mouth[0])
+    return found
+
+
+def plain_starts(world, speaker):
+    found = {speaker}
+    for _, members, _ in world[3]:
+        if speaker in members:
+            found.update(name for name in members if plain_seat(world, name)[2])
+    return sorted(found)
+
+
+def plain_follows(world, leg, ahead):
+    leaves, line = plain_legs(world)[leg][:2]
+    comes, by = plain_legs(world)[ahead][2:]
+    return leaves == comes and line != by
+
+
+def plain_is_way(world, speaker, listener, start, row):
+    """The words of the document, one after the other."""
+    table = plain_legs(world)
+    bridge = plain_seat(world, listener)[1]
+    if start not in plain_starts(world, speaker) or any(leg not in table for leg in row):
+        return False
+    if not row:
+        return plain_seat(world, start)[1] == bridge and start != listener
+    first, last = table[row[0]], table[row[-1]]
+    if first[0] != plain_seat(world, start)[1] or first[1] == start:
+        return False
+    if any(not plain_follows(world, leg, ahead) for ahead, leg in zip(row, row[1:])):
+        return False
+    return last[2] == bridge and last[3] != listener
+
+
+def plain_numbers(world, speaker, listener, most):
+    """How many ways there are of 0, 1, .. most legs."""
+    table = plain_legs(world)
+    starts = plain_starts(world, speaker)
+    numbers = [sum(plain_is_way(world, speaker, listener, start, ()) for start in starts)]
+    bridge = plain_seat(world, listener)[1]
+    rows = {leg: sum(table[leg][0] == plain_seat(world, start)[1] and table[leg][1] != start for start in starts)
+            for leg in table}
+    after = {leg: [late for late in table if plain_follows(world, late, leg)] for leg in table}
+    for _ in range(most):
+        numbers.append(sum(rows[leg] for leg in table if table[leg][2] == bridge and table[leg][3] != listener))
+        longer = dict.fromkeys(table, 0)
+        for leg in table:
+            for late in after[leg]:
+                longer[late] += rows[leg]
+        rows = longer
+    return numbers
+
+
+def plain_times(world, speaker, listener):
+    """A way longer than all legs goes over one of them twice, so there are endless ones;
+    if there are any of that kind, there is one of at most twice as many legs."""
+    size = len(plain_legs(world))
+    numbers = plain_numbers(world, speaker, listener, 2 * size)
+    return None if any(numbers[size + 1:]) else sum(numbers)
+
+
+def plain_way(world, speaker, listener):
+    numbers = plain_numbers(world, speaker, listener, len(plain_legs(world)))
+    if not any(numbers):
+        return None
+    size = [at for at, number in enumerate(numbers) if number][0]
+    table = plain_legs(world)
+    rows = [(start, ()) for start in plain_starts(world, speaker)]
+    for at in range(size):
+        rows = [(start, row + (leg,)) for start, row in rows for leg in table
+                if (plain_follows(world, leg, row[-1]) if at else
+                    table[leg][0] == plain_seat(world, start)[1] and table[leg][1] != start)]
+    return min(way for way in rows if plain_is_way(world, speaker, listener, way[0], way[1]))
+
+
+def plain_reached(world, speaker):
+    table = plain_legs(world)
+    found = {leg for leg in table for start in plain_starts(world, speaker)
+             if table[leg][0] == plain_seat(world, start)[1] and table[leg][1] != start}
+    for _ in table:
+        found |= {leg for leg in table for ahead in found if plain_follows(world, leg, ahead)}
+    return tuple(sorted(found))
+
+
+def pairs(world):
+    """All pairs of a seat that speaks and a seat that hears."""
+    return [(one[0], other[0]) for one in world[2] for other in world[2] if one[2] and other[3]]
