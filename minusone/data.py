@@ -1,6 +1,6 @@
 """Worlds, their legs, and the ways of a voice."""
 
-from minusone.net import Net, check_leg, net_between, passes, tupled
+from minusone.net import Net, check_between, check_leg, passes, tupled
 
 
 def is_name(thing):
@@ -111,9 +111,8 @@ def follows(world, leg, ahead):
     return leg in net.after[ahead]
 
 
-def is_way(world, speaker, listener, thing):
-    """Whether this is a way from the speaker to the listener."""
-    net = net_between(world, speaker, listener)
+def is_run(net, speaker, listener, thing):
+    """Whether this is a way, where the speaker speaks and the listener hears."""
     if not is_tuple(thing, 2) or not isinstance(thing[1], tuple):
         return False
     start, row = thing
@@ -121,7 +120,14 @@ def is_way(world, speaker, listener, thing):
         return False
     came = net.place(start)
     for leg in row:
-        if leg not in net.legs or not passes(came, net.leaves[leg]):
+        if leg not in net.legs or not passes(came, (net.leaves[leg], leg[0])):
             return False
         came = net.comes[leg]
     return passes(came, net.place(listener))
+
+
+def is_way(world, speaker, listener, thing):
+    """Whether this is a way from the speaker to the listener."""
+    check_between(world, speaker, listener)
+    # Most of what is no way is no pair, and then the net need not be laid out.
+    return is_tuple(thing, 2) and is_run(Net(world), speaker, listener, thing)

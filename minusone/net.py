@@ -22,39 +22,50 @@ def passes(came, leaves):
 class Net:
     """The seats and the legs of one world.
 
-    leaves and comes give each leg's two places; after gives the legs that
-    follow it. All lists of legs and of seats in here are ascending.
+    A leg leaves its bridge by the line that it is named after. For each
+    leg, comes gives the place to which it comes, gains its gain, and after
+    the legs that follow it; out gives the legs that leave a bridge. All
+    lists of legs and of seats in here are ascending.
     """
 
     def __init__(self, world):
-        _, joins, seats, rooms = tupled(world)
+        _, joins, seats, rooms = world
         self.seats = {seat[0]: seat for seat in seats}
-        self.mates = {name: room[1] for room in rooms for name in room[1]}
+        self.rooms = rooms
         self.leaves = {}
         self.comes = {}
+        self.gains = {}
         for join in joins:
             self.add_join(join)
         for room in rooms:
-            self.add_room(room[1])
+            self.add_room(room)
         self.legs = sorted(self.leaves)
+        self.out = {}
+        for leg in self.legs:
+            self.out.setdefault(self.leaves[leg], []).append(leg)
         self.after = {leg: self.out_of(self.comes[leg]) for leg in self.legs}
 
     def add_join(self, join):
         name, one, other, there, back = join
         if there is not None:
-            self.add_leg((name, "there"), (one, name), (other, name))
+            self.add_leg((name, "there"), one, (other, name), there)
         if back is not None:
-            self.add_leg((name, "back"), (other, name), (one, name))
+            self.add_leg((name, "back"), other, (one, name), back)
 
-    def add_room(self, members):
-        for seat in members:
-            for mate in members:
-                if seat != mate and self.hears(seat) and self.speaks(mate):
-                    self.add_leg((seat, mate), self.place(seat), self.place(mate))
+    def add_room(self, room):
+        _, members, air = room
+        ears = [seat for seat in members if self.hears(seat)]
+        for mate in members:
+            if self.speaks(mate):
+                place = self.place(mate)
+                for seat in ears:
+                    if seat != mate:
+                        self.add_leg((seat, mate), self.seats[seat][1], place, air)
 
-    def add_leg(self, leg, leaves, comes):
-        self.leaves[leg] = leaves
-        self.comes[leg] = comes
+    def add_leg(self, leg, bridge, place, gain):
+        self.leaves[leg] = bridge
+        self.comes[leg] = place
+        self.gains[leg] = gain
 
     def speaks(self, seat):
         return self.seats[seat][2]
@@ -66,42 +77,65 @@ class Net:
         """The place where a voice comes in from this seat, or out to it."""
         return (self.seats[seat][1], seat)
 
+    def room_of(self, seat):
+        """The room of the seat; None if it stands in none."""
+        for room in self.rooms:
+            if seat in room[1]:
+                return room
+        return None
+
     def starts(self, speaker):
         """Where the voice of a seat that speaks starts."""
-        members = self.mates.get(speaker, (speaker,))
-        return [seat for seat in members if self.speaks(seat)]
+        room = self.room_of(speaker)
+        if room is None:
+            return [speaker]
+        return [seat for seat in room[1] if self.speaks(seat)]
 
     def out_of(self, came):
         """The legs that what came to this place goes out by."""
-        return [leg for leg in self.legs if passes(came, self.leaves[leg])]
+        bridge, line = came
+        return [leg for leg in self.out.get(bridge, ()) if leg[0] != line]
+
+    def ears_at(self, came):
+        """The seats that hear what came to one of these places."""
+        lines = {}
+        for bridge, line in came:
+            lines.setdefault(bridge, []).append(line)
+        heard = []
+        for name, at, _, hears in self.seats.values():
+            if hears and any([other != name for other in lines.get(at, ())]):
+                heard.append(name)
+        return heard
 
 
-def check_seat(net, name):
-    if not isinstance(name, str) or name not in net.seats:
-        raise NoSeat(name)
+def seat_of(world, name):
+    """The seat of this name; the net need not be laid out to find it."""
+    for seat in world[2]:
+        if seat[0] == name:
+            return seat
+    raise NoSeat(name)
+
+
+def check_voice(world, speaker):
+    if not seat_of(world, speaker)[2]:
+        raise NoVoice(speaker)
+
+
+def check_ear(world, listener):
+    if not seat_of(world, listener)[3]:
+        raise NoEar(listener)
+
+
+def check_between(world, speaker, listener):
+    """Raise what there is to raise of a speaker and a listener."""
+    voice = seat_of(world, speaker)
+    ear = seat_of(world, listener)
+    if not voice[2]:
+        raise NoVoice(speaker)
+    if not ear[3]:
+        raise NoEar(listener)
 
 
 def check_leg(net, leg):
     if leg not in net.legs:
         raise NoLeg(leg)
-
-
-def net_from(world, speaker):
-    """The net of the world, if this seat is there and speaks."""
-    net = Net(world)
-    check_seat(net, speaker)
-    if not net.speaks(speaker):
-        raise NoVoice(speaker)
-    return net
-
-
-def net_between(world, speaker, listener):
-    """The net of the world, if one seat is there and speaks, the other hears."""
-    net = Net(world)
-    check_seat(net, speaker)
-    check_seat(net, listener)
-    if not net.speaks(speaker):
-        raise NoVoice(speaker)
-    if not net.hears(listener):
-        raise NoEar(listener)
-    return net

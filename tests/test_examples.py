@@ -3,7 +3,10 @@
 import doctest
 import unittest
 
+import minusone.cuts
 import minusone.data
+import minusone.loud
+import minusone.rings
 import minusone.ways
 
 WORLDS = """
@@ -23,10 +26,32 @@ HOW_OFTEN = """
     (True, True, (('j', 'there'),))
 """
 
+GOES_ROUND = """
+    >>> least_ring(one), least_ring(two), least_ring(room), spare_joins(two)
+    (None, (('j', 'back'), ('k', 'there')), (('a', 'b'),), ('j',))
+"""
+
+HOW_LOUD = """
+    >>> weights(two), loud(two, "a", "b"), loud(two, "a", "a"), loud(room, "c", "a"), loud(one, "a", "a")
+    (((('j', 'back'), (2, 1)), (('j', 'there'), (2, 1)), (('k', 'back'), (2, 1)), (('k', 'there'), (2, 1))), (4, 3), (2, 3), (2, 1), (0, 1))
+    >>> three = (("p", "q"), two[1] + (("l", "p", "q", (1, 2), (1, 2)),), (("a", "p", True, True),), ())
+    >>> howl(three), weights(three), loud(three, "a", "a"), is_calm(two, ((("j", "back"), (1, 1)), (("j", "there"), (1, 1)), (("k", "back"), (1, 1)), (("k", "there"), (1, 1))))
+    (((('j', 'back'), ('j', 'there'), ('k', 'back'), ('k', 'there'), ('l', 'back')), ('l', 'there')), None, None, True)
+"""
+
+SHUT_OFF = """
+    >>> fewest_shut(two, "a", "b"), is_apart(two, "a", "b", (("a", (("j", "there"),)), ("a", (("k", "there"),)))), fewest_shut(room, "c", "a"), overheard(room, "a"), guard(room, "a")
+    ((('j', 'there'), ('k', 'there')), True, None, ['c'], (('a', 'b'),))
+"""
+
+FILES = (minusone.data, minusone.ways, minusone.rings, minusone.loud, minusone.cuts)
+
 
 class Examples(unittest.TestCase):
     def run_examples(self, text, many):
-        names = {**vars(minusone.data), **vars(minusone.ways)}
+        names = {}
+        for file in FILES:
+            names.update({name: thing for name, thing in vars(file).items() if not name.startswith("_")})
         test = doctest.DocTestParser().get_doctest(text, names, "examples", None, None)
         told = []
         result = doctest.DocTestRunner(verbose=False).run(test, out=told.append)
@@ -37,6 +62,15 @@ class Examples(unittest.TestCase):
 
     def test_section_4(self):
         self.run_examples(WORLDS + HOW_OFTEN, 7)
+
+    def test_section_5(self):
+        self.run_examples(WORLDS + GOES_ROUND, 6)
+
+    def test_section_6(self):
+        self.run_examples(WORLDS + HOW_LOUD, 8)
+
+    def test_section_7(self):
+        self.run_examples(WORLDS + SHUT_OFF, 6)
 
 
 if __name__ == "__main__":

@@ -4,8 +4,9 @@ import copy
 import inspect
 import unittest
 
-from minusone import data, ways
-from worlds import EMPTY, FULL, HALL, KINDS, LOOP, ONE, ROOM, TWO, listed, mixed, pairs, plain_legs, random_world
+from minusone import cuts, data, loud, rings, ways
+from worlds import (EMPTY, FULL, HALL, KINDS, LOOP, ONE, ROOM, THREE, TWO, ears, listed, mixed, opened, pairs,
+                    plain_legs, random_world, softened)
 
 NAMES = {
     data.is_world: ["thing"], data.legs: ["world"], data.follows: ["world", "leg", "ahead"],
@@ -13,26 +14,49 @@ NAMES = {
     ways.times: ["world", "speaker", "listener"], ways.way: ["world", "speaker", "listener"],
     ways.reached: ["world", "speaker"], ways.hearers: ["world", "speaker"],
     ways.echo: ["world", "speaker", "listener"], ways.is_echo: ["world", "speaker", "listener", "thing"],
+    rings.has_ring: ["world"], rings.least_ring: ["world"], rings.spare_joins: ["world"],
+    loud.weights: ["world"], loud.is_calm: ["world", "thing"], loud.howl: ["world"],
+    loud.is_howl: ["world", "thing"], loud.loud: ["world", "speaker", "listener"],
+    cuts.fewest_shut: ["world", "speaker", "listener"], cuts.apart: ["world", "speaker", "listener"],
+    cuts.is_apart: ["world", "speaker", "listener", "thing"],
+    cuts.overheard: ["world", "seat"], cuts.guard: ["world", "seat"],
 }
+
+LISTS = (data.legs, ways.hearers, cuts.overheard)
+TUPLES = (ways.reached, rings.spare_joins, cuts.guard)
+TUPLES_OR_NONE = (ways.way, ways.echo, rings.least_ring, loud.weights, loud.howl, loud.loud, cuts.fewest_shut,
+                  cuts.apart)
+TRUTHS = (data.is_world, data.follows, data.is_way, ways.is_echo, rings.has_ring, loud.is_calm, loud.is_howl,
+          cuts.is_apart)
 
 
 def calls(world):
     """Calls of all functions with this world."""
-    found = [(data.is_world, (world,)), (data.legs, (world,))]
+    found = [(call, (world,)) for call in (data.is_world, data.legs, rings.has_ring, rings.least_ring, loud.weights,
+                                           loud.howl)]
+    found.append((rings.spare_joins, (opened(world),)))
+    for thing in (loud.weights(world), loud.howl(world), None):
+        found.extend([(loud.is_calm, (world, thing)), (loud.is_howl, (world, thing))])
+    found.extend((call, (world, seat)) for seat in ears(world) for call in (cuts.overheard, cuts.guard))
     table = sorted(plain_legs(world))
     found.extend((data.follows, (world, leg, ahead)) for leg in table[:5] for ahead in table[-5:])
     for name, _, speaks, _ in world[2]:
         if speaks:
             found.extend([(ways.reached, (world, name)), (ways.hearers, (world, name))])
     for speaker, listener in pairs(world):
-        found.extend((call, (world, speaker, listener)) for call in (ways.times, ways.way, ways.echo))
-        for thing in (ways.way(world, speaker, listener), ways.echo(world, speaker, listener), None):
-            found.extend((call, (world, speaker, listener, thing)) for call in (data.is_way, ways.is_echo))
+        found.extend((call, (world, speaker, listener)) for call in (ways.times, ways.way, ways.echo, loud.loud,
+                                                                     cuts.fewest_shut, cuts.apart))
+        for thing in (ways.way(world, speaker, listener), ways.echo(world, speaker, listener),
+                      cuts.apart(world, speaker, listener), None):
+            found.extend((call, (world, speaker, listener, thing)) for call in (data.is_way, ways.is_echo,
+                                                                                cuts.is_apart))
     return found
 
 
 def all_calls():
-    worlds = [EMPTY, FULL, HALL, KINDS, LOOP, ONE, ROOM, TWO] + [random_world(seed) for seed in range(40)]
+    worlds = [EMPTY, FULL, HALL, KINDS, LOOP, ONE, ROOM, THREE, TWO, softened(FULL, 3)]
+    worlds.extend(random_world(seed) for seed in range(25))
+    worlds.extend(softened(random_world(seed), seed) for seed in range(15))
     return [call for world in worlds for call in calls(world)]
 
 
@@ -81,22 +105,24 @@ class General(unittest.TestCase):
     def test_lists_or_tuples(self):
         for function, given in all_calls():
             told = function(*given)
-            if function in (data.legs, ways.hearers):
+            if function in LISTS:
                 self.assertIs(told.__class__, list)
-            elif function is ways.reached:
+            elif function in TUPLES:
                 self.assertIs(told.__class__, tuple)
+            elif function in TUPLES_OR_NONE:
+                self.assertIn(told.__class__, (tuple, type(None)))
             elif function is ways.times:
                 self.assertIn(told.__class__, (int, type(None)))
-            elif function in (ways.way, ways.echo):
-                self.assertIn(told.__class__, (tuple, type(None)))
             else:
+                self.assertIn(function, TRUTHS)
                 self.assertIs(told.__class__, bool)
 
     def test_thing_is_taken_to_the_letter(self):
         for function, given in all_calls():
             if NAMES[function][-1] == "thing" and given[-1] is not None:
                 self.assertIs(function(*given[:-1], listed(given[-1])), False, (function, given))
-                self.assertIs(function(*given[:-1], mixed(given[-1])), False, (function, given))
+                if given[-1] != ():
+                    self.assertIs(function(*given[:-1], mixed(given[-1])), False, (function, given))
 
     def test_arguments_stay_as_they_were(self):
         for function, given in all_calls():
@@ -117,6 +143,11 @@ class General(unittest.TestCase):
         for seat in ways.hearers(FULL, "a"):
             told = ways.way(FULL, "a", seat)
             self.assertIs(data.is_way(FULL, "a", seat, told), True)
+        ring = rings.least_ring(TWO)
+        self.assertIs(data.follows(TWO, ring[0], ring[-1]), True)
+        calm = softened(FULL, 3)
+        self.assertIs(loud.is_calm(calm, loud.weights(calm)), True)
+        self.assertIs(loud.is_howl(FULL, loud.howl(FULL)), True)
 
 
 class Bounds(unittest.TestCase):
@@ -129,6 +160,21 @@ class Bounds(unittest.TestCase):
         self.assertEqual(ways.reached(FULL, "a"), tuple(data.legs(FULL)))
         self.assertEqual(ways.hearers(FULL, "f"), ["a", "d"])
         self.assertIsNone(ways.times(FULL, "a", "d"))
+        self.assertIs(rings.has_ring(FULL), True)
+        self.assertEqual(loud.is_howl(FULL, loud.howl(FULL)), True)
+        self.assertIsNone(loud.weights(FULL))
+        self.assertIsNone(loud.loud(FULL, "a", "d"))
+        calm = softened(FULL, 3)
+        self.assertEqual(len(loud.weights(calm)), 16)
+        self.assertIs(loud.is_calm(calm, loud.weights(calm)), True)
+
+    def test_beyond_the_bounds_of_what_is_shut(self):
+        """16 legs, where 12 are the bound."""
+        told = cuts.apart(FULL, "d", "a")
+        self.assertIs(cuts.is_apart(FULL, "d", "a", told), True)
+        self.assertEqual(len(cuts.fewest_shut(FULL, "d", "a")), len(told))
+        self.assertEqual(cuts.overheard(FULL, "a"), ["d"])
+        self.assertEqual(cuts.guard(FULL, "a"), (("a", "b"), ("a", "c")))
 
     def test_a_large_room(self):
         names = tuple("abcdefghijkl")
@@ -138,6 +184,15 @@ class Bounds(unittest.TestCase):
         self.assertIsNone(ways.times(world, "a", "b"))
         self.assertEqual(ways.way(world, "a", "b"), ("a", ()))
         self.assertEqual(ways.hearers(world, "a"), list(names))
+        self.assertEqual(rings.least_ring(world), (("a", "b"),))
+        self.assertEqual(loud.howl(world), ((), ("a", "b")))
+        self.assertIsNone(cuts.fewest_shut(world, "a", "b"))
+        self.assertEqual(cuts.overheard(world, "a"), list(names[1:]))
+
+    def test_gains_above_the_bound(self):
+        world = (("p",), (), ROOM[2], (("r", ("a", "b"), (10 ** 40, 10 ** 40 + 1)),))
+        self.assertEqual(loud.weights(world), ((("a", "b"), (10 ** 40 + 1, 1)),))
+        self.assertEqual(loud.loud(world, "c", "a"), (10 ** 40 + 1, 1))
 
 
 if __name__ == "__main__":

@@ -14,6 +14,9 @@ INTERFACE = {
     "errors.py": ["NoSeat", "NoLeg", "NoVoice", "NoEar", "BadText", "BadLine"],
     "data.py": ["is_world", "legs", "follows", "is_way"],
     "ways.py": ["times", "way", "reached", "hearers", "echo", "is_echo"],
+    "rings.py": ["has_ring", "least_ring", "spare_joins"],
+    "loud.py": ["weights", "is_calm", "howl", "is_howl", "loud"],
+    "cuts.py": ["fewest_shut", "apart", "is_apart", "overheard", "guard"],
 }
 
 BUILTINS = """len range enumerate zip min max sum abs sorted reversed int str bool list tuple dict set frozenset

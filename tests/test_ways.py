@@ -1,13 +1,15 @@
 """How often, by which way, and whom: [1] (a) and [5]."""
 
 import unittest
+from unittest import mock
 
 from minusone.data import is_way
 from minusone.errors import NoEar, NoSeat, NoVoice
+from minusone.net import Net
 from minusone.ways import echo, hearers, is_echo, reached, times, way
 from test_data import STRANGE
-from worlds import (EMPTY, FULL, HALF, HALL, KINDS, LOOP, ONE, ROOM, TWO, ladder, pairs, plain_reached, plain_times,
-                    plain_way, random_world)
+from worlds import (EMPTY, FULL, HALF, HALL, KINDS, LOOP, ONE, ROOM, TWO, ladder, listed, mixed, pairs, plain_is_way,
+                    plain_reached, plain_times, plain_way, random_world)
 
 SEEDS = range(300)
 
@@ -242,6 +244,101 @@ class Errors(unittest.TestCase):
     def test_empty_world(self):
         for call in (times, way, echo):
             self.wrong(NoSeat, "a", call, EMPTY, "a", "b")
+
+
+NOBODY = ("", "h", "j", "p", "zz", None, 7, ("a",))
+THINGS = (None, 5, "a", (), ("a",), ("a", ()), ["a", ()], ("a", (), (("a", "b"),), ()), ("a", (("j", "there"),)))
+
+
+def first_reason(world, speaker, listener):
+    """What the document says is raised for these two, by its words; None if nothing is."""
+    names = [seat[0] for seat in world[2]]
+    for name in (speaker, listener):
+        if name not in names:
+            return (NoSeat, name)
+    if not world[2][names.index(speaker)][2]:
+        return (NoVoice, speaker)
+    if not world[2][names.index(listener)][3]:
+        return (NoEar, listener)
+    return None
+
+
+class Refused(unittest.TestCase):
+    """Every pair of seats and names of nobody, in worlds with rooms and without."""
+
+    def worlds(self):
+        return [EMPTY, FULL, HALL, KINDS, LOOP, ONE, ROOM, TWO] + [random_world(seed) for seed in range(60)]
+
+    def all_pairs(self, world):
+        names = [seat[0] for seat in world[2]] + list(NOBODY)
+        return [(speaker, listener) for speaker in names for listener in names]
+
+    def refuses(self, reason, call, *given):
+        with self.assertRaises(reason[0]) as caught:
+            call(*given)
+        self.assertIs(caught.exception.__class__, reason[0])
+        self.assertEqual(vars(caught.exception), {"name": reason[1]})
+
+    def test_the_first_reason(self):
+        found = {None: 0, NoSeat: 0, NoVoice: 0, NoEar: 0}
+        for world in self.worlds():
+            for speaker, listener in self.all_pairs(world):
+                reason = first_reason(world, speaker, listener)
+                found[reason and reason[0]] += 1
+                if reason is None:
+                    self.answers(world, speaker, listener)
+                    continue
+                for given in (world, listed(world), mixed(world)):
+                    for call in (times, way, echo):
+                        self.refuses(reason, call, given, speaker, listener)
+                    for thing in THINGS:
+                        self.refuses(reason, is_way, given, speaker, listener, thing)
+                        self.refuses(reason, is_echo, given, speaker, listener, thing)
+        self.assertGreater(min(found.values()), 100)
+
+    def answers(self, world, speaker, listener):
+        number, told = times(world, speaker, listener), way(world, speaker, listener)
+        self.assertEqual(number, plain_times(world, speaker, listener))
+        self.assertEqual(told, plain_way(world, speaker, listener))
+        self.assertIs(listener in hearers(world, speaker), told is not None)
+        self.assertIs(is_echo(world, speaker, listener, echo(world, speaker, listener)), number is None)
+        self.assertIs(is_way(world, speaker, listener, told), told is not None)
+        for thing in THINGS:
+            right = isinstance(thing, tuple) and len(thing) == 2 and plain_is_way(world, speaker, listener, *thing)
+            self.assertIs(is_way(world, speaker, listener, thing), right, (world, thing))
+
+    def test_a_speaker_alone(self):
+        for world in self.worlds():
+            for name in [seat[0] for seat in world[2]] + list(NOBODY):
+                for call in (reached, hearers):
+                    for given in (world, listed(world)):
+                        if name in [seat[0] for seat in world[2] if seat[2]]:
+                            self.assertEqual(reached(given, name), plain_reached(world, name))
+                        else:
+                            reason = NoVoice if name in [seat[0] for seat in world[2]] else NoSeat
+                            self.refuses((reason, name), call, given, name)
+
+    def test_refused_without_laying_out_the_legs(self):
+        """Most of a call's time goes there; a refused call need not take it."""
+        with mock.patch.object(Net, "__init__", side_effect=AssertionError("laid out")):
+            for speaker, listener in self.all_pairs(FULL):
+                reason = first_reason(FULL, speaker, listener)
+                if reason is not None:
+                    for call in (times, way, echo):
+                        self.refuses(reason, call, FULL, speaker, listener)
+                    for call in (is_way, is_echo):
+                        self.refuses(reason, call, FULL, speaker, listener, ("a", ()))
+            for call in (reached, hearers):
+                self.refuses((NoSeat, "x"), call, FULL, "x")
+                self.refuses((NoVoice, "e"), call, KINDS, "e")
+            for thing in (None, 5, "a", (), ("a",), ["a", ()], ("a", (), ()), ((), (), (), (), ())):
+                self.assertIs(is_way(FULL, "a", "a", thing), False)
+                self.assertIs(is_echo(FULL, "a", "a", thing), False)
+
+    def test_laid_out_once_for_an_answer(self):
+        with mock.patch("minusone.ways.Net", side_effect=Net) as laid:
+            is_echo(TWO, "a", "b", ("a", (("j", "there"),), (("k", "back"), ("j", "there")), ()))
+            self.assertEqual(laid.call_count, 1)
 
 
 if __name__ == "__main__":

@@ -1,11 +1,14 @@
 """Worlds for the tests, and a slow, plain reading of the document to compare with."""
 
 import random
+from fractions import Fraction
+from itertools import combinations
 
 HALF = (1, 2)
 
 ONE = (("p", "q"), (("j", "p", "q", HALF, HALF),), (("a", "p", True, True), ("b", "q", True, True)), ())
 TWO = (("p", "q"), (("j", "p", "q", HALF, HALF), ("k", "p", "q", HALF, HALF)), ONE[2], ())
+THREE = (("p", "q"), TWO[1] + (("l", "p", "q", HALF, HALF),), (("a", "p", True, True),), ())
 ROOM = (("p",), (), (("a", "p", True, True), ("b", "p", True, False), ("c", "p", True, True)),
         (("r", ("a", "b"), HALF),))
 EMPTY = ((), (), (), ())
@@ -206,3 +209,170 @@ def plain_reached(world, speaker):
 def pairs(world):
     """All pairs of a seat that speaks and a seat that hears."""
     return [(one[0], other[0]) for one in world[2] for other in world[2] if one[2] and other[3]]
+
+
+def softened(world, seed):
+    """The world with gains so small that most of it is calm."""
+    dice = random.Random(seed)
+    low = dice.randint(2, 6)
+
+    def soft(gain):
+        return None if gain is None else (dice.randint(1, 2), dice.randint(low, 9))
+
+    joins = tuple((name, one, other, soft(there), soft(back)) for name, one, other, there, back in world[1])
+    return (world[0], joins, world[2], tuple((name, members, soft(air)) for name, members, air in world[3]))
+
+
+def opened(world):
+    """The world without rooms, and with all joins open both ways."""
+    joins = tuple((name, one, other, there or HALF, back or HALF) for name, one, other, there, back in world[1])
+    return (world[0], joins, world[2], ())
+
+
+def shared_line(gain, many):
+    """Two bridges with so many joins, all ways with this gain."""
+    joins = tuple((name, "p", "q", gain, gain) for name in "jklmno"[:many])
+    return (("p", "q"), joins, ONE[2], ())
+
+
+def plain_after(world, shut=()):
+    """For each leg that is not shut those that follow it."""
+    table = [leg for leg in sorted(plain_legs(world)) if leg not in shut]
+    return {leg: [late for late in table if plain_follows(world, late, leg)] for leg in table}
+
+
+def plain_least_ring(world):
+    """All rows of different legs, the short ones first, that begin with the least one and come back to it."""
+    after = plain_after(world)
+    rows = [(leg,) for leg in after]
+    while rows:
+        rings = [row for row in rows if row[0] in after[row[-1]]]
+        if rings:
+            return min(rings)
+        rows = [row + (late,) for row in rows for late in after[row[-1]] if late not in row and late > row[0]]
+    return None
+
+
+def plain_parts(world):
+    """For each bridge those that hang together with it."""
+    near = {bridge: {bridge} for bridge in world[0]}
+    for _ in world[0]:
+        for _, one, other, _, _ in world[1]:
+            near[one] = near[other] = near[one] | near[other]
+    return near
+
+
+def plain_spare_joins(world):
+    names = [join[0] for join in world[1]]
+    for many in range(len(names) + 1):
+        for spare in combinations(names, many):
+            left = (world[0], tuple(join for join in world[1] if join[0] not in spare), world[2], world[3])
+            if plain_parts(left) == plain_parts(world) and plain_least_ring(left) is None:
+                return spare
+    raise AssertionError(world)
+
+
+def plain_gains(world):
+    gains = {}
+    for name, _, _, there, back in world[1]:
+        gains[name, "there"], gains[name, "back"] = there, back
+    for _, members, air in world[3]:
+        gains.update({(one, other): air for one in members for other in members})
+    return {leg: Fraction(*gains[leg]) for leg in plain_legs(world)}
+
+
+def plain_sums(world, legs, alone):
+    """The sums that solve sum = alone + the sums of the legs that follow, each by its gain; None if none do."""
+    after, gains = plain_after(world), plain_gains(world)
+    rows = [[Fraction(leg == late) - (gains[late] if late in after[leg] else 0) for late in legs] + [Fraction(alone(leg))]
+            for leg in legs]
+    for at in range(len(legs)):
+        swap = [row for row in range(at, len(legs)) if rows[row][at]]
+        if not swap:
+            return None
+        rows[at], rows[swap[0]] = rows[swap[0]], rows[at]
+        rows[at] = [part / rows[at][at] for part in rows[at]]
+        for other in range(len(legs)):
+            if other != at:
+                rows[other] = [part - rows[other][at] * best for part, best in zip(rows[other], rows[at])]
+    return {leg: row[-1] for leg, row in zip(legs, rows)}
+
+
+def plain_calm(world, legs):
+    """There are weights by which each leg is 1 above what follows it, and none of them below 0."""
+    sums = plain_sums(world, legs, lambda leg: 1)
+    return sums is not None and all(sums[leg] > 0 for leg in legs)
+
+
+def plain_first(world, speaker, shut=()):
+    """The legs that leave the bridge of a start, not by its line."""
+    table = plain_legs(world)
+    return {leg for leg in table for start in plain_starts(world, speaker)
+            if leg not in shut and table[leg][0] == plain_seat(world, start)[1] and table[leg][1] != start}
+
+
+def plain_behind(world, found, shut=()):
+    """These legs and all that follow them, and so on."""
+    after = plain_after(world, shut)
+    for _ in after:
+        found = found | {late for leg in found for late in after[leg]}
+    return found
+
+
+def plain_heard(world, seat, legs):
+    """Whether the seat hears what comes by one of the legs."""
+    table = plain_legs(world)
+    return any(table[leg][2] == plain_seat(world, seat)[1] and table[leg][3] != seat for leg in legs)
+
+
+def plain_near(world, speaker, listener):
+    """The starts that the listener hears without any leg."""
+    return [start for start in plain_starts(world, speaker) if plain_is_way(world, speaker, listener, start, ())]
+
+
+def plain_loud(world, speaker, listener):
+    reach = plain_behind(world, plain_first(world, speaker))
+    live = [leg for leg in sorted(reach) if plain_heard(world, listener, plain_behind(world, {leg}))]
+    if not plain_calm(world, live):
+        return None
+    gains = plain_gains(world)
+    sums = plain_sums(world, live, lambda leg: plain_heard(world, listener, [leg]))
+    airs = [Fraction(*air) for _, members, air in world[3] if speaker in members]
+    total = Fraction(0)
+    for start in plain_starts(world, speaker):
+        bridge = plain_seat(world, start)[1]
+        table = plain_legs(world)
+        near = sum(gains[leg] * sums[leg] for leg in live if table[leg][0] == bridge and table[leg][1] != start)
+        near += plain_is_way(world, speaker, listener, start, ())
+        total += near if start == speaker else near * airs[0]
+    return (total.numerator, total.denominator)
+
+
+def plain_fewest(world, is_done):
+    """The fewest legs that do it when they are shut, the least of several."""
+    table = sorted(plain_legs(world))
+    for many in range(len(table) + 1):
+        for shut in combinations(table, many):
+            if is_done(shut):
+                return shut
+    return None
+
+
+def plain_fewest_shut(world, speaker, listener):
+    def is_done(shut):
+        return not plain_heard(world, listener, plain_behind(world, plain_first(world, speaker, shut), shut))
+    return None if plain_near(world, speaker, listener) else plain_fewest(world, is_done)
+
+
+def plain_overheard(world, seat, shut=()):
+    own = {leg for leg in plain_legs(world) if leg[0] == seat and leg not in shut}
+    reach = plain_behind(world, own, shut)
+    return [other[0] for other in world[2] if other[3] and other[0] != seat and plain_heard(world, other[0], reach)]
+
+
+def plain_guard(world, seat):
+    return plain_fewest(world, lambda shut: not plain_overheard(world, seat, shut))
+
+
+def ears(world):
+    return [seat[0] for seat in world[2] if seat[3]]
