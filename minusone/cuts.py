@@ -78,16 +78,23 @@ def fewest_between(net, firsts, ends):
     return tuple(shut)
 
 
+def cut_over(net, speaker, listener):
+    """The fewest legs of this net without which there is no way, the least of several.
+
+    None if there is a way without legs.
+    """
+    if heard_start(net, speaker, listener) is not None:
+        return None
+    return fewest_between(net, first_legs(net, speaker), last_legs(net, listener))
+
+
 def fewest_shut(world, speaker, listener):
     """The fewest legs without which there is no way, the least of several.
 
     None if there is a way without legs.
     """
     check_between(world, speaker, listener)
-    net = Net(world)
-    if heard_start(net, speaker, listener) is not None:
-        return None
-    return fewest_between(net, first_legs(net, speaker), last_legs(net, listener))
+    return cut_over(Net(world), speaker, listener)
 
 
 def start_of(net, speaker, leg):
@@ -140,11 +147,15 @@ def others_at(net, seat, legs):
     return [name for name in net.ears_at([net.comes[leg] for leg in legs]) if name != seat]
 
 
+def overheard_over(net, seat):
+    """The other seats that hear over this net what is told to this seat alone."""
+    return others_at(net, seat, reached_from(net, own_legs(net, seat)))
+
+
 def overheard(world, seat):
     """The other seats that hear what is told to this seat alone."""
     check_ear(world, seat)
-    net = Net(world)
-    return others_at(net, seat, reached_from(net, own_legs(net, seat)))
+    return overheard_over(Net(world), seat)
 
 
 def guard(world, seat):

@@ -48,13 +48,17 @@ def is_calm(world, thing):
     return all([is_less(weight_behind(net, net.after[leg], table), table[leg]) for leg in net.legs])
 
 
-def howl(world):
-    """Legs that are calm, and a leg that howls with them; None if all is calm."""
-    net = Net(world)
+def howl_over(net):
+    """Legs of this net that are calm, and a leg that howls with them; None if all is calm."""
     many = calm_many(net, net.legs)
     if many == len(net.legs):
         return None
     return (tuple(net.legs[:many]), net.legs[many])
+
+
+def howl(world):
+    """Legs that are calm, and a leg that howls with them; None if all is calm."""
+    return howl_over(Net(world))
 
 
 def is_howl(world, thing):
@@ -77,10 +81,8 @@ def start_gain(net, speaker, start):
     return net.room_of(speaker)[2]
 
 
-def loud(world, speaker, listener):
-    """How loud the listener hears the speaker; None if it is not finite."""
-    check_between(world, speaker, listener)
-    net = Net(world)
+def loud_over(net, speaker, listener):
+    """How loud the listener hears the speaker over this net; None if it is not finite."""
     goal = net.place(listener)
     ends = last_legs(net, listener)
     live = live_legs(net, speaker, steps_to(net, ends))
@@ -96,3 +98,9 @@ def loud(world, speaker, listener):
             here = added(here, (1, 1))
         total = added(total, multiplied(start_gain(net, speaker, start), here))
     return total
+
+
+def loud(world, speaker, listener):
+    """How loud the listener hears the speaker; None if it is not finite."""
+    check_between(world, speaker, listener)
+    return loud_over(Net(world), speaker, listener)

@@ -20,7 +20,7 @@ def passes(came, leaves):
 
 
 class Net:
-    """The seats and the legs of one world.
+    """The seats of one world, and its legs without those that are shut.
 
     A leg leaves its bridge by the line that it is named after. For each
     leg, comes gives the place to which it comes, gains its gain, and after
@@ -28,8 +28,9 @@ class Net:
     lists of legs and of seats in here are ascending.
     """
 
-    def __init__(self, world):
+    def __init__(self, world, shut=()):
         _, joins, seats, rooms = world
+        self.shut = shut
         self.seats = {seat[0]: seat for seat in seats}
         self.rooms = rooms
         self.leaves = {}
@@ -63,9 +64,10 @@ class Net:
                         self.add_leg((seat, mate), self.seats[seat][1], place, air)
 
     def add_leg(self, leg, bridge, place, gain):
-        self.leaves[leg] = bridge
-        self.comes[leg] = place
-        self.gains[leg] = gain
+        if leg not in self.shut:
+            self.leaves[leg] = bridge
+            self.comes[leg] = place
+            self.gains[leg] = gain
 
     def speaks(self, seat):
         return self.seats[seat][2]

@@ -10,9 +10,8 @@ def has_ring(world):
     return unsettled(net, net.legs) != []
 
 
-def least_ring(world):
-    """The ring with the fewest legs, the least of several; None if there is none."""
-    net = Net(world)
+def ring_over(net):
+    """The ring over this net with the fewest legs, the least of several; None if there is none."""
     best = None
     for leg in unsettled(net, net.legs):
         row = shortest_row(net, net.after[leg], steps_to(net, [leg]))
@@ -20,6 +19,11 @@ def least_ring(world):
             # The row comes back to the leg. No leg of it is less: that one came up before, with no more legs.
             best = (leg,) + row[:-1]
     return best
+
+
+def least_ring(world):
+    """The ring with the fewest legs, the least of several; None if there is none."""
+    return ring_over(Net(world))
 
 
 def spare_joins(world):

@@ -40,6 +40,14 @@ def reached_from(net, firsts):
     return list(seen)
 
 
+def is_heard(net, speaker, listener):
+    """Whether there is a way from the speaker to the listener."""
+    if heard_start(net, speaker, listener) is not None:
+        return True
+    goal = net.place(listener)
+    return any([passes(net.comes[leg], goal) for leg in reached_from(net, first_legs(net, speaker))])
+
+
 def legs_ahead(net):
     """For each leg those that it follows."""
     ahead = {leg: [] for leg in net.legs}
@@ -128,3 +136,32 @@ def unsettled(net, legs):
     """Those of these legs behind which some of them go round."""
     done = {leg: True for leg in settled(net, legs)}
     return [leg for leg in legs if leg not in done]
+
+
+def ring_through(net, leg, most):
+    """The leg and the fewest others that go round with it, () if there are none of at most so many in all."""
+    rows = [(leg,)]
+    seen = {leg: True}
+    for _ in range(most):
+        more = []
+        for row in rows:
+            for late in net.after[row[-1]]:
+                if late == leg:
+                    return row
+                if late not in seen:
+                    seen[late] = True
+                    more.append(row + (late,))
+        rows = more
+    return ()
+
+
+def short_ring(net):
+    """As few legs as there are that go round; () if none do."""
+    best = ()
+    most = len(net.legs)
+    for leg in net.legs:
+        row = ring_through(net, leg, most)
+        if row:
+            best = row
+            most = len(row) - 1
+    return best

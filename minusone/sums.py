@@ -86,3 +86,19 @@ def sums_of(net, lines):
 def calm_many(net, legs):
     """How many of the legs, from the first on, are calm together."""
     return len(solved_lines(net, legs, {}))
+
+
+def howling_legs(net):
+    """Legs that are not calm together, but are without any one of them; none if all of the net are calm."""
+    sure = []
+    rest = net.legs
+    while True:
+        row = sure + rest
+        many = calm_many(net, row)
+        if many == len(row):
+            return []
+        if many < len(sure):
+            return sure
+        # Without this leg those ahead of it are calm, so it must be one of them.
+        rest = row[len(sure):many]
+        sure = sure + [row[many]]

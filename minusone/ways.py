@@ -30,10 +30,8 @@ def shortest_run(net, speaker, steps):
     return best
 
 
-def times(world, speaker, listener):
-    """How many ways there are; None if they are endless."""
-    check_between(world, speaker, listener)
-    net = Net(world)
+def times_over(net, speaker, listener):
+    """How many ways there are over this net; None if they are endless."""
     goal = net.place(listener)
     live = live_legs(net, speaker, steps_to(net, last_legs(net, listener)))
     order = settled(net, live)
@@ -45,14 +43,24 @@ def times(world, speaker, listener):
     return sum([rests_from(net, net.place(start), goal, rests) for start in net.starts(speaker)])
 
 
-def way(world, speaker, listener):
-    """The way with the fewest legs, the least of several; None if there is none."""
+def times(world, speaker, listener):
+    """How many ways there are; None if they are endless."""
     check_between(world, speaker, listener)
-    net = Net(world)
+    return times_over(Net(world), speaker, listener)
+
+
+def way_over(net, speaker, listener):
+    """The way over this net with the fewest legs, the least of several; None if there is none."""
     start = heard_start(net, speaker, listener)
     if start is not None:
         return (start, ())
     return shortest_run(net, speaker, steps_to(net, last_legs(net, listener)))
+
+
+def way(world, speaker, listener):
+    """The way with the fewest legs, the least of several; None if there is none."""
+    check_between(world, speaker, listener)
+    return way_over(Net(world), speaker, listener)
 
 
 def reached(world, speaker):
@@ -62,13 +70,17 @@ def reached(world, speaker):
     return tuple(sorted(reached_from(net, first_legs(net, speaker))))
 
 
-def hearers(world, speaker):
-    """The seats that hear the speaker."""
-    check_voice(world, speaker)
-    net = Net(world)
+def hearers_over(net, speaker):
+    """The seats that hear the speaker over this net."""
     came = [net.place(start) for start in net.starts(speaker)]
     came.extend([net.comes[leg] for leg in reached_from(net, first_legs(net, speaker))])
     return net.ears_at(came)
+
+
+def hearers(world, speaker):
+    """The seats that hear the speaker."""
+    check_voice(world, speaker)
+    return hearers_over(Net(world), speaker)
 
 
 def circle_in(net, legs):

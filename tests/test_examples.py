@@ -5,8 +5,11 @@ import unittest
 
 import minusone.cuts
 import minusone.data
+import minusone.desk
 import minusone.loud
+import minusone.mutes
 import minusone.rings
+import minusone.texts
 import minusone.ways
 
 WORLDS = """
@@ -44,7 +47,26 @@ SHUT_OFF = """
     ((('j', 'there'), ('k', 'there')), True, None, ['c'], (('a', 'b'),))
 """
 
-FILES = (minusone.data, minusone.ways, minusone.rings, minusone.loud, minusone.cuts)
+MUTES = """
+    >>> fewest_mutes(two, (("a", "b"), ("b", "a"))), fewest_mutes(two, ()), fewest_mutes(room, (("a", "c"), ("c", "a"))), fewest_calm(two, ()), fewest_calm(three, ())
+    ((('j', 'back'), ('j', 'there')), (('j', 'back'), ('j', 'there')), (('a', 'b'),), (), (('j', 'back'),))
+    >>> late = (("k", "back"), ("k", "there"))
+    >>> order_for(two, late, legs(two), (("a", "b"),)), order_for(two, late, legs(two), (("a", "b"), ("b", "a"))), first_trouble(two, late, (("k", "there"), ("j", "back")), (("a", "b"),))
+    ((('j', 'back'), ('k', 'there'), ('j', 'there'), ('k', 'back')), None, 1)
+"""
+
+TEXTS = r"""
+    >>> world_text(room), leg_text(("j", "there")), way_text(("b", (("j", "back"), ("k", "there")))), gain_text((4, 3)), gain_text((2, 1))
+    ('p\na @ p SH\nb @ p S\nc @ p SH\nr = a+b 1/2', 'j.there', 'b>j.back>k.there', '4/3', '2')
+"""
+
+DESK = r"""
+    >>> answers("p q\nj p > q 1/2 1/2\nk p > q 1/2 1/2\na @ p SH\nb @ q SH\n\nlegs\ntimes a b\nring\ncalm\nloud a b\ncut a b\nshut k.back\nshut k.there\ntimes a b\ntimes a a\nway a b\nway a a\nring\nloud a b\nhearers a\nopen k.back\nring\nshut l.back\nway a c\noverheard a")
+    ['j.back j.there k.back k.there', 'endless', 'j.back k.there', 'yes', '4/3', 'j.there k.there', 'done', 'done', '1', '0', 'a>j.there', '-', '-', '1/2', 'b', 'done', 'j.there k.back', 'refused NoLeg', 'refused NoSeat', '-']
+"""
+
+FILES = (minusone.data, minusone.ways, minusone.rings, minusone.loud, minusone.cuts, minusone.mutes, minusone.texts,
+         minusone.desk)
 
 
 class Examples(unittest.TestCase):
@@ -71,6 +93,15 @@ class Examples(unittest.TestCase):
 
     def test_section_7(self):
         self.run_examples(WORLDS + SHUT_OFF, 6)
+
+    def test_section_8(self):
+        self.run_examples(WORLDS + HOW_LOUD + MUTES, 11)
+
+    def test_section_9(self):
+        self.run_examples(WORLDS + TEXTS, 6)
+
+    def test_section_10(self):
+        self.run_examples(WORLDS + DESK, 6)
 
 
 if __name__ == "__main__":

@@ -4,9 +4,10 @@ import copy
 import inspect
 import unittest
 
-from minusone import cuts, data, loud, rings, ways
+from minusone import cuts, data, desk, errors, loud, mutes, rings, texts, ways
 from worlds import (EMPTY, FULL, HALL, KINDS, LOOP, ONE, ROOM, THREE, TWO, ears, listed, mixed, opened, pairs,
-                    plain_legs, random_world, softened)
+                    plain_fewest_calm, plain_fewest_mutes, plain_legs, plain_order_for, plain_troubles, random_world,
+                    softened)
 
 NAMES = {
     data.is_world: ["thing"], data.legs: ["world"], data.follows: ["world", "leg", "ahead"],
@@ -20,14 +21,47 @@ NAMES = {
     cuts.fewest_shut: ["world", "speaker", "listener"], cuts.apart: ["world", "speaker", "listener"],
     cuts.is_apart: ["world", "speaker", "listener", "thing"],
     cuts.overheard: ["world", "seat"], cuts.guard: ["world", "seat"],
+    mutes.fewest_mutes: ["world", "wishes"], mutes.fewest_calm: ["world", "wishes"],
+    mutes.order_for: ["world", "shut", "changes", "wishes"], mutes.first_trouble: ["world", "shut", "order", "wishes"],
+    texts.world_text: ["world"], texts.world_in: ["text"], texts.leg_text: ["leg"], texts.leg_in: ["world", "text"],
+    texts.way_text: ["way"], texts.gain_text: ["gain"], desk.answers: ["text"],
 }
 
-LISTS = (data.legs, ways.hearers, cuts.overheard)
-TUPLES = (ways.reached, rings.spare_joins, cuts.guard)
+LISTS = (data.legs, ways.hearers, cuts.overheard, desk.answers)
+TUPLES = (ways.reached, rings.spare_joins, cuts.guard, texts.world_in, texts.leg_in)
 TUPLES_OR_NONE = (ways.way, ways.echo, rings.least_ring, loud.weights, loud.howl, loud.loud, cuts.fewest_shut,
-                  cuts.apart)
+                  cuts.apart, mutes.fewest_mutes, mutes.fewest_calm, mutes.order_for)
+NUMBERS_OR_NONE = (ways.times, mutes.first_trouble)
+STRINGS = (texts.world_text, texts.leg_text, texts.way_text, texts.gain_text)
 TRUTHS = (data.is_world, data.follows, data.is_way, ways.is_echo, rings.has_ring, loud.is_calm, loud.is_howl,
           cuts.is_apart)
+
+
+def calls_of_mutes(world):
+    """Calls with no, one and several wishes, with what is shut by them and with nothing shut."""
+    found = []
+    table, every = data.legs(world), sorted(pairs(world))
+    for wishes in {(), tuple(every[:1]), tuple(every[-2:])}:
+        found.extend([(mutes.fewest_mutes, (world, wishes)), (mutes.fewest_calm, (world, wishes))])
+        for shut in ((), mutes.fewest_mutes(world, wishes) or ()):
+            found.append((mutes.order_for, (world, shut, tuple(table[:4]), wishes)))
+            found.append((mutes.first_trouble, (world, shut, tuple(table[-1:-5:-1]), wishes)))
+    return found
+
+
+def calls_of_texts(world):
+    text = texts.world_text(world)
+    requests = ["legs", "ring", "calm"] + ["shut " + texts.leg_text(leg) for leg in data.legs(world)[:3]] + ["legs"]
+    requests.extend(f"{word} {one} {other}" for word in ("times", "way", "cut") for one, other in pairs(world)[:3])
+    found = [(texts.world_text, (world,)), (texts.world_in, (text,)), (texts.gain_text, ((4, 3),)),
+             (texts.gain_text, ((0, 1),)), (desk.answers, (text + "\n\n" + "\n".join(requests),))]
+    for leg in data.legs(world)[:4]:
+        found.extend([(texts.leg_text, (leg,)), (texts.leg_in, (world, texts.leg_text(leg)))])
+    for speaker, listener in pairs(world)[:4]:
+        told = ways.way(world, speaker, listener)
+        if told is not None:
+            found.append((texts.way_text, (told,)))
+    return found
 
 
 def calls(world):
@@ -50,7 +84,7 @@ def calls(world):
                       cuts.apart(world, speaker, listener), None):
             found.extend((call, (world, speaker, listener, thing)) for call in (data.is_way, ways.is_echo,
                                                                                 cuts.is_apart))
-    return found
+    return found + calls_of_mutes(world) + calls_of_texts(world)
 
 
 def all_calls():
@@ -67,7 +101,23 @@ def spoil(value):
         value.reverse()
 
 
+FILES = (cuts, data, desk, errors, loud, mutes, rings, texts, ways)
+
+
 class General(unittest.TestCase):
+    def test_defined_where_the_interface_lists_them(self):
+        for function in NAMES:
+            self.assertIn(function.__module__, [file.__name__ for file in FILES], function)
+            self.assertEqual(function.__code__.co_name, function.__name__)
+        self.assertEqual(len(NAMES), 34)
+
+    def test_told_the_same_whatever_was_asked_between(self):
+        every = all_calls()
+        first = [copy.deepcopy(function(*given)) for function, given in every]
+        for function, given in reversed(every):
+            spoil(function(*given))
+        self.assertEqual([function(*given) for function, given in every], first)
+
     def test_names_of_arguments(self):
         for function, names in NAMES.items():
             told = inspect.signature(function).parameters
@@ -111,8 +161,10 @@ class General(unittest.TestCase):
                 self.assertIs(told.__class__, tuple)
             elif function in TUPLES_OR_NONE:
                 self.assertIn(told.__class__, (tuple, type(None)))
-            elif function is ways.times:
+            elif function in NUMBERS_OR_NONE:
                 self.assertIn(told.__class__, (int, type(None)))
+            elif function in STRINGS:
+                self.assertIs(told.__class__, str)
             else:
                 self.assertIn(function, TRUTHS)
                 self.assertIs(told.__class__, bool)
@@ -148,6 +200,11 @@ class General(unittest.TestCase):
         calm = softened(FULL, 3)
         self.assertIs(loud.is_calm(calm, loud.weights(calm)), True)
         self.assertIs(loud.is_howl(FULL, loud.howl(FULL)), True)
+        shut = mutes.fewest_mutes(TWO, ())
+        self.assertEqual(mutes.order_for(TWO, shut, data.legs(TWO)[2:], ()), tuple(data.legs(TWO)[2:]))
+        self.assertIsNone(mutes.first_trouble(TWO, shut, mutes.order_for(TWO, shut, data.legs(TWO)[2:], ()), ()))
+        self.assertEqual(texts.world_in(texts.world_text(FULL)), FULL)
+        self.assertEqual(texts.gain_text(loud.loud(TWO, "a", "b")), "4/3")
 
 
 class Bounds(unittest.TestCase):
@@ -188,6 +245,32 @@ class Bounds(unittest.TestCase):
         self.assertEqual(loud.howl(world), ((), ("a", "b")))
         self.assertIsNone(cuts.fewest_shut(world, "a", "b"))
         self.assertEqual(cuts.overheard(world, "a"), list(names[1:]))
+
+    def test_mutes_within_the_bounds(self):
+        """12 legs, 4 wishes and 6 changes."""
+        bridges, joins, seats, _ = FULL
+        world = (bridges, joins, tuple((name, bridge, True, True) for name, bridge, _, _ in seats), ())
+        wishes = (("a", "d"), ("b", "f"), ("d", "a"), ("f", "c"))
+        self.assertEqual(len(data.legs(world)), 12)
+        shut = mutes.fewest_mutes(world, wishes)
+        self.assertEqual(shut, plain_fewest_mutes(world, wishes))
+        self.assertEqual(mutes.fewest_calm(world, wishes), plain_fewest_calm(world, wishes))
+        changes = tuple(sorted(shut[:3] + tuple(leg for leg in data.legs(world) if leg not in shut)[:3]))
+        for asked in (wishes, wishes[:1], ()):
+            told = mutes.order_for(world, shut, changes, asked)
+            self.assertEqual(told, plain_order_for(world, shut, changes, asked))
+
+    def test_mutes_beyond_the_bounds(self):
+        """16 legs, 12 wishes and 16 changes."""
+        every, wishes = tuple(data.legs(FULL)), tuple(sorted(pairs(FULL)))
+        shut = mutes.fewest_mutes(FULL, wishes)
+        self.assertEqual((len(every), len(wishes)), (16, 12))
+        self.assertEqual(shut, plain_fewest_mutes(FULL, wishes))
+        self.assertEqual(mutes.fewest_calm(FULL, wishes), plain_fewest_calm(FULL, wishes))
+        self.assertEqual(mutes.first_trouble(FULL, (), every, wishes), 0)
+        self.assertEqual(mutes.first_trouble(FULL, every, every, ()), plain_troubles(FULL, every, every, ())[0])
+        told = mutes.order_for(FULL, shut, every, ())
+        self.assertEqual([] if told is None else plain_troubles(FULL, shut, told, ()), [])
 
     def test_gains_above_the_bound(self):
         world = (("p",), (), ROOM[2], (("r", ("a", "b"), (10 ** 40, 10 ** 40 + 1)),))

@@ -17,6 +17,9 @@ INTERFACE = {
     "rings.py": ["has_ring", "least_ring", "spare_joins"],
     "loud.py": ["weights", "is_calm", "howl", "is_howl", "loud"],
     "cuts.py": ["fewest_shut", "apart", "is_apart", "overheard", "guard"],
+    "mutes.py": ["fewest_mutes", "fewest_calm", "order_for", "first_trouble"],
+    "texts.py": ["world_text", "world_in", "leg_text", "leg_in", "way_text", "gain_text"],
+    "desk.py": ["answers"],
 }
 
 BUILTINS = """len range enumerate zip min max sum abs sorted reversed int str bool list tuple dict set frozenset
@@ -31,9 +34,12 @@ setdefault split splitlines startswith strip update upper values zfill bit_lengt
 swapcase casefold center expandtabs removeprefix removesuffix rindex isascii isdecimal isnumeric istitle isidentifier
 isprintable translate maketrans format encode decode hex from_bytes from_iterable""".split()
 
-BARRED_WORDS = """register mro elements open input law version_info with_traceback add_note type typing enum Enum
-IntEnum StrEnum Flag IntFlag Generic Protocol ABC ABCMeta namedtuple NamedTuple TypedDict TYPE_CHECKING abstractmethod
-dataclass overload contextmanager _wall _WallAttr""".split()
+# Not as names; in strings and comments they may stand.
+BARRED_NAMES = """register mro elements open input law version_info with_traceback add_note""".split()
+
+# Not at all.
+BARRED_WORDS = """type typing enum Enum IntEnum StrEnum Flag IntFlag Generic Protocol ABC ABCMeta namedtuple NamedTuple
+TypedDict TYPE_CHECKING abstractmethod dataclass overload contextmanager _wall _WallAttr""".split()
 
 BARRED_NODES = (ast.Global, ast.AsyncFunctionDef, ast.AsyncFor, ast.AsyncWith, ast.Await, ast.Import, ast.Div)
 
@@ -124,6 +130,46 @@ class Language(unittest.TestCase):
                 if isinstance(node, ast.Constant):
                     self.assertNotIsInstance(node.value, (float, complex), name)
                     self.assertNotIn("%", str(node.value), name)
+
+    def test_names_that_are_barred(self):
+        for name, tree in self.trees():
+            found = bound_names(tree)
+            for node in ast.walk(tree):
+                found.extend([node.attr] if isinstance(node, ast.Attribute) else [])
+                found.extend([node.id] if isinstance(node, ast.Name) else [])
+                found.extend([node.arg] if isinstance(node, ast.keyword) else [])
+            self.assertEqual([word for word in found if word in BARRED_NAMES], [], name)
+
+    def test_local_names_are_not_those_of_imports_and_classes(self):
+        for name, tree in self.trees():
+            outer = [part.name for node in tree.body if isinstance(node, ast.ImportFrom) for part in node.names]
+            outer.extend(node.name for node in tree.body if isinstance(node, ast.ClassDef))
+            for node in tree.body:
+                if isinstance(node, (ast.FunctionDef, ast.ClassDef)):
+                    inner = [word for part in node.body for word in bound_names(part)]
+                    inner.extend(part.arg for part in ast.walk(node) if isinstance(part, ast.arg))
+                    self.assertEqual([word for word in inner if word in outer], [], (name, node.name))
+
+    def test_no_files_import_one_another(self):
+        needs = {name[:-3]: {node.module.split(".")[1] for node in tree.body if isinstance(node, ast.ImportFrom)
+                             and node.module.startswith("minusone.")} for name, tree in self.trees()}
+        while needs:
+            free = [name for name in needs if not needs[name] & set(needs)]
+            self.assertNotEqual(free, [], needs)
+            for name in free:
+                del needs[name]
+
+    def test_no_name_twice_at_module_level(self):
+        for name, tree in self.trees():
+            found = []
+            for node in tree.body:
+                if isinstance(node, (ast.FunctionDef, ast.ClassDef)):
+                    found.append(node.name)
+                elif isinstance(node, ast.ImportFrom):
+                    found.extend(part.name for part in node.names)
+                elif isinstance(node, ast.Assign):
+                    found.extend(target.id for target in node.targets)
+            self.assertEqual(sorted(set(found)), sorted(found), name)
 
     def test_words_that_are_barred(self):
         for name, text in sources():

@@ -2,7 +2,7 @@
 
 import random
 from fractions import Fraction
-from itertools import combinations
+from itertools import combinations, permutations
 
 HALF = (1, 2)
 
@@ -109,6 +109,18 @@ def plain_seat(world, name):
     raise AssertionError(name)
 
 
+class Less(tuple):
+    """A world of which some legs are shut, also such as go through the air; for the plain reading alone."""
+
+    shut = ()
+
+
+def less(world, shut):
+    found = Less(world)
+    found.shut = tuple(shut)
+    return found
+
+
 def plain_legs(world):
     """For each leg the bridge and the line that it leaves, then those that it comes to."""
     found = {}
@@ -123,6 +135,8 @@ def plain_legs(world):
             for mouth in seats:
                 if ear is not mouth and ear[3] and mouth[2]:
                     found[ear[0], mouth[0]] = (ear[1], ear[0], mouth[1], mouth[0])
+    for leg in getattr(world, "shut", ()):
+        del found[leg]
     return found
 
 
@@ -376,3 +390,73 @@ def plain_guard(world, seat):
 
 def ears(world):
     return [seat[0] for seat in world[2] if seat[3]]
+
+
+def plain_hearers(world, speaker):
+    reach = plain_behind(world, plain_first(world, speaker))
+    return [seat for seat in ears(world) if plain_near(world, speaker, seat) or plain_heard(world, seat, reach)]
+
+
+def plain_howl(world):
+    table = sorted(plain_legs(world))
+    for at, leg in enumerate(table):
+        if not plain_calm(world, table[:at + 1]):
+            return (tuple(table[:at]), leg)
+    return None
+
+
+def plain_all_heard(world, wishes):
+    """A function that tells of a set of legs whether there is a way over these alone for each of the wishes."""
+    after = plain_after(world)
+    needs = [(plain_first(world, speaker), {leg for leg in after if plain_heard(world, listener, [leg])})
+             for speaker, listener in wishes if not plain_near(world, speaker, listener)]
+
+    def all_heard(left):
+        for firsts, lasts in needs:
+            found = firsts & left
+            for _ in left:
+                found = found | {late for leg in found for late in after[leg] if late in left}
+            if not found & lasts:
+                return False
+        return True
+    return all_heard
+
+
+def plain_no_ring(world):
+    """A function that tells of a set of legs whether all rows of them end."""
+    after = plain_after(world)
+
+    def no_ring(left):
+        for _ in range(len(after) + 1):
+            left = {leg for leg in left if left & set(after[leg])}
+        return not left
+    return no_ring
+
+
+def plain_fewest_mutes(world, wishes):
+    table, heard, ends = set(plain_legs(world)), plain_all_heard(world, wishes), plain_no_ring(world)
+    return plain_fewest(world, lambda shut: heard(table - set(shut)) and ends(table - set(shut)))
+
+
+def plain_fewest_calm(world, wishes):
+    table, heard = set(plain_legs(world)), plain_all_heard(world, wishes)
+    return plain_fewest(world, lambda shut: heard(table - set(shut)) and plain_calm(world, sorted(table - set(shut))))
+
+
+def plain_troubles(world, shut, order, wishes):
+    """Behind how many changes of the order something goes round or is not heard."""
+    table, heard, ends = set(plain_legs(world)), plain_all_heard(world, wishes), plain_no_ring(world)
+    left = table - set(shut)
+    found = [] if heard(left) and ends(left) else [0]
+    for at, leg in enumerate(order):
+        left = left ^ {leg}
+        if not (heard(left) and ends(left)):
+            found.append(at + 1)
+    return found
+
+
+def plain_order_for(world, shut, changes, wishes):
+    for order in permutations(changes):
+        if not plain_troubles(world, shut, order, wishes):
+            return order
+    return None
